@@ -1,0 +1,104 @@
+package num
+
+import "math/bits"
+
+// gcd is Lehmer's: most of Euclid's steps are done on the highest words alone, many at a time. What 0 and y share is y.
+func gcd(x, y nat) nat {
+	if compareNats(x, y) < 0 {
+		x, y = y, x
+	}
+	for len(y) > 1 {
+		s := manySteps(x, y)
+		if s.none() {
+			_, rest := divideNats(x, y)
+			x, y = y, rest
+		} else {
+			x, y = s.apply(x, y)
+		}
+	}
+	if len(y) == 0 {
+		return x
+	}
+	if y.isOne() {
+		return y
+	}
+	return nat{gcdWords(y[0], restByWord(x, y[0]))}
+}
+
+func gcdWords(x, y uint64) uint64 {
+	for y != 0 {
+		x, y = y, x%y
+	}
+	return x
+}
+
+// restByWord is what is left of x over w, which isn't 0.
+func restByWord(x nat, w uint64) uint64 {
+	var rest uint64
+	for i := len(x) - 1; i >= 0; i-- {
+		_, rest = bits.Div64(rest, x[i], w)
+	}
+	return rest
+}
+
+// steps is what some of Euclid's steps come to: x becomes xx of x and xy of y, y becomes yx of x and yy of y.
+// In each of both one of the two is added, the other subtracted; odd, the number of steps, says which.
+type steps struct {
+	xx, xy, yx, yy uint64
+	odd            bool
+}
+
+func (s steps) none() bool { return s.xy == 0 }
+
+// manySteps does Euclid's steps on the highest words of x and y (x isn't below y, y has two words or more) for as long as all of x and y surely go the same way (Collins).
+// The last step on the words isn't sure yet, so what is answered lags one step behind them, from the start on: nextX and nextY are what it would be told next.
+func manySteps(x, y nat) steps {
+	a, b := highWords(x, y)
+	s := steps{xx: 0, xy: 0, yx: 1, yy: 0, odd: true}
+	nextX, nextY := uint64(0), uint64(1)
+	for b >= nextY && a-b >= s.yy+nextY {
+		q := a / b
+		a, b = b, a%b
+		s.xx, s.yx, nextX = s.yx, nextX, s.yx+q*nextX
+		s.xy, s.yy, nextY = s.yy, nextY, s.yy+q*nextY
+		s.odd = !s.odd
+	}
+	return s
+}
+
+// highWords is x's highest bits, as many as a word has, and y's bits at the same places.
+func highWords(x, y nat) (a, b uint64) {
+	n := len(x)
+	by := bits.LeadingZeros64(x[n-1])
+	a = x[n-1]<<by | x[n-2]>>(wordBits-by)
+	b = y.word(n-1)<<by | y.word(n-2)>>(wordBits-by)
+	return a, b
+}
+
+func (s steps) apply(x, y nat) (newX, newY nat) {
+	if s.odd {
+		return lessMultiples(y, s.xy, x, s.xx), lessMultiples(x, s.yx, y, s.yy)
+	}
+	return lessMultiples(x, s.xx, y, s.xy), lessMultiples(y, s.yy, x, s.yx)
+}
+
+// lessMultiples is u times x less v times y, where that is neither below 0 nor longer than both of them.
+func lessMultiples(x nat, u uint64, y nat, v uint64) nat {
+	n := max(len(x), len(y))
+	rest := make(nat, n)
+	var overX, overY, borrow uint64
+	for i := range n {
+		var lowX, lowY uint64
+		overX, lowX = multiplyAdd(x.word(i), u, overX)
+		overY, lowY = multiplyAdd(y.word(i), v, overY)
+		rest[i], borrow = bits.Sub64(lowX, lowY, borrow)
+	}
+	return trim(rest)
+}
+
+// multiplyAdd is x times y and c more, in two words.
+func multiplyAdd(x, y, c uint64) (high, low uint64) {
+	high, low = bits.Mul64(x, y)
+	low, carry := bits.Add64(low, c, 0)
+	return high + carry, low
+}
