@@ -68,6 +68,17 @@ func (x Frac) under() nat {
 // IsZero tells whether x is 0.
 func (x Frac) IsZero() bool { return len(x.top) == 0 }
 
+// Sign is -1, 0 or 1: x is below 0, 0, or above.
+func (x Frac) Sign() int {
+	if x.IsZero() {
+		return 0
+	}
+	if x.minus {
+		return -1
+	}
+	return 1
+}
+
 // Equal leans on there being one form of each fraction.
 func (x Frac) Equal(y Frac) bool {
 	return x.minus == y.minus && slices.Equal(x.top, y.top) && slices.Equal(x.low, y.low)

@@ -89,8 +89,8 @@ func TestFracsAgainstBig(t *testing.T) {
 		if b.Sign() != 0 {
 			isFrac(t, "quotient", x.Over(y), new(big.Rat).Quo(a, b))
 		}
-		if x.Equal(y) != (a.Cmp(b) == 0) || x.IsZero() != (a.Sign() == 0) {
-			t.Fatalf("%s and %s: equal %v, zero %v", p, q, x.Equal(y), x.IsZero())
+		if x.Equal(y) != (a.Cmp(b) == 0) || x.IsZero() != (a.Sign() == 0) || x.Sign() != a.Sign() {
+			t.Fatalf("%s and %s: equal %v, zero %v, sign %d", p, q, x.Equal(y), x.IsZero(), x.Sign())
 		}
 		isFrac(t, "less itself", x.Minus(x), new(big.Rat))
 	}
