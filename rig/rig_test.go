@@ -198,3 +198,31 @@ func TestOnlyRead(t *testing.T) {
 		}
 	}
 }
+
+func TestCheckLoads(t *testing.T) {
+	fine := api.Load{Joint: 3, Way: spot("words", "1/0")}
+	none := api.Load{Joint: 4}
+	for _, c := range []struct {
+		what string
+		l    []api.Load
+		want api.Fault
+	}{
+		{"none", nil, api.Fault{}},
+		{"an empty list", []api.Load{}, api.Fault{}},
+		{"as many as may be", slices.Repeat([]api.Load{fine}, api.MaxLoads), api.Fault{}},
+		{"one more", slices.Repeat([]api.Load{fine}, api.MaxLoads+1), fault(api.ErrMany, 8)},
+		{"one more, at no joint", slices.Repeat([]api.Load{none}, api.MaxLoads+1), fault(api.ErrMany, 8)},
+		{"the first at no joint", []api.Load{none, fine}, fault(api.ErrJoint, 8)},
+		{"the third at no joint", []api.Load{fine, {}, none, none}, fault(api.ErrJoint, 10)},
+		{"below", []api.Load{fine, {Joint: -1}}, fault(api.ErrJoint, 9)},
+		{"far below and above", []api.Load{fine, {Joint: math.MinInt}, {Joint: math.MaxInt}}, fault(api.ErrJoint, 9)},
+	} {
+		if got := rig.CheckLoads(truss(), c.l); got != c.want {
+			t.Errorf("%s: %v, want %v", c.what, got, c.want)
+		}
+	}
+	bare := api.Frame{Joints: []api.Spot{{}}}
+	if got := rig.CheckLoads(bare, []api.Load{{}, {Joint: 1}}); got != fault(api.ErrJoint, 1) {
+		t.Errorf("no bars, no holds: %v", got)
+	}
+}

@@ -1,0 +1,162 @@
+package rows
+
+import (
+	"fmt"
+	"math/rand"
+	"strings"
+	"testing"
+
+	"rafter/api"
+	"rafter/num"
+)
+
+// read makes rows of a text: blanks between numbers, semicolons between rows.
+func read(text string) []Row {
+	var l []Row
+	for line := range strings.SplitSeq(text, ";") {
+		var r Row
+		for _, w := range strings.Fields(line) {
+			r = append(r, num.Of(api.Q(w)))
+		}
+		if r != nil {
+			l = append(l, r)
+		}
+	}
+	return l
+}
+
+func told(l []Row) string {
+	var lines []string
+	for _, r := range l {
+		var words []string
+		for _, x := range r {
+			words = append(words, string(x.Q()))
+		}
+		lines = append(lines, strings.Join(words, " "))
+	}
+	return strings.Join(lines, "; ")
+}
+
+func TestRankAndNulls(t *testing.T) {
+	for _, c := range []struct {
+		text  string
+		wide  int
+		rank  int
+		nulls string
+	}{
+		{"", 0, 0, ""},
+		{"", 2, 0, "1 0; 0 1"},
+		{"0 0; 0 0", 2, 0, "1 0; 0 1"},
+		{"5 0; 0 -1/2", 2, 2, ""},
+		{"1 2", 2, 1, "-2 1"},
+		{"0 2", 2, 1, "1 0"},
+		{"2 4; 3 6; 1/2 1", 2, 1, "-2 1"},
+		{"1 2 3; 4 5 6; 7 8 9", 3, 2, "1 -2 1"},
+		{"1 2 3; 4 5 6; 7 8 10", 3, 3, ""},
+		{"0 0 1 1; 1 1 0 0", 4, 2, "-1 1 0 0; 0 0 -1 1"},
+		{"0 0 1 1; 0 0 1 2", 4, 2, "1 0 0 0; 0 1 0 0"},
+		{"1 1 1 1; 0 1 1 1", 4, 2, "0 -1 1 0; 0 -1 0 1"},
+	} {
+		if got := Rank(read(c.text), c.wide); got != c.rank {
+			t.Errorf("%q: rank %d, want %d", c.text, got, c.rank)
+		}
+		if got := told(Nulls(read(c.text), c.wide)); got != c.nulls {
+			t.Errorf("%q: %q, want %q", c.text, got, c.nulls)
+		}
+	}
+}
+
+func TestSolve(t *testing.T) {
+	for _, c := range []struct {
+		text string
+		wide int
+		sums string
+		want string
+		e    api.Errno
+	}{
+		{"", 0, "", "", api.OK},
+		{"", 1, "", "", api.ErrFree},
+		{"2", 1, "3", "3/2", api.OK},
+		{"0", 1, "0", "", api.ErrFree},
+		{"0", 1, "3", "", api.ErrNone},
+		{"1 1; 1 -1", 2, "3 1", "2 1", api.OK},
+		{"0 1; 1 0", 2, "3 1", "1 3", api.OK},
+		{"1 1; 2 2", 2, "3 6", "", api.ErrFree},
+		{"1 1; 2 2", 2, "3 5", "", api.ErrNone},
+		{"1 1; 1 -1; 3 1", 2, "3 1 7", "2 1", api.OK},
+		{"1 1; 1 -1; 3 1", 2, "3 1 8", "", api.ErrNone},
+		{"1 1 0; 2 2 0", 3, "3 5", "", api.ErrNone},
+	} {
+		sums := make(Row, 0)
+		for _, r := range read(c.sums) {
+			sums = r
+		}
+		x, e := Solve(read(c.text), c.wide, sums)
+		if got := told([]Row{x}); got != c.want || e != c.e {
+			t.Errorf("%q is %q: %q %v, want %q %v", c.text, c.sums, got, e, c.want, c.e)
+		}
+	}
+}
+
+func TestTurned(t *testing.T) {
+	if got := told(Turned(read("1 2 3; 4 5 6"), 3)); got != "1 4; 2 5; 3 6" {
+		t.Errorf("%q", got)
+	}
+	if got := Turned(nil, 2); len(got) != 2 || len(got[0])+len(got[1]) != 0 {
+		t.Errorf("of nothing: %v", got)
+	}
+}
+
+func randomRows(r *rand.Rand, high, wide int) []Row {
+	l := Blank(high, wide)
+	for i := range high {
+		for c := range wide {
+			if r.Intn(2) == 0 {
+				l[i][c] = num.Of(api.Q(fmt.Sprintf("%d/%d", r.Intn(9)-4, 1+r.Intn(3))))
+			}
+		}
+	}
+	return l
+}
+
+func dot(a, b Row) num.Frac {
+	var sum num.Frac
+	for i := range a {
+		sum = sum.Plus(a[i].Times(b[i]))
+	}
+	return sum
+}
+
+func TestRandomRows(t *testing.T) {
+	r := rand.New(rand.NewSource(6))
+	for range 3000 {
+		high, wide := r.Intn(6), r.Intn(6)
+		l := randomRows(r, high, wide)
+		before := told(l)
+		rank := Rank(l, wide)
+		if over := Rank(Turned(l, wide), high); over != rank {
+			t.Fatalf("%s: rank %d, turned %d", before, rank, over)
+		}
+		nulls := Nulls(l, wide)
+		if len(nulls) != wide-rank {
+			t.Fatalf("%s: rank %d, nulls %s", before, rank, told(nulls))
+		}
+		x := randomRows(r, 1, wide)[0]
+		sums := make(Row, high)
+		for i := range l {
+			sums[i] = dot(l[i], x)
+			for _, n := range nulls {
+				if !dot(l[i], n).IsZero() {
+					t.Fatalf("%s: %s", before, told(nulls))
+				}
+			}
+		}
+		got, e := Solve(l, wide, sums)
+		if rank < wide && e != api.ErrFree || rank == wide && (e != api.OK || told([]Row{got}) != told([]Row{x})) {
+			t.Fatalf("%s is %s: %s %v, want %s", before, told([]Row{sums}), told([]Row{got}), e, told([]Row{x}))
+		}
+		if after := told(l); after != before {
+			t.Fatalf("%s has become %s", before, after)
+		}
+	}
+}

@@ -1,0 +1,72 @@
+package still
+
+import (
+	"rafter/api"
+	"rafter/num"
+	"rafter/rows"
+)
+
+// parts is how many bars and holds f has: bars, then holds, are the columns of its balance.
+func parts(f api.Frame) int { return len(f.Bars) + len(f.Holds) }
+
+// ways is how many ways its joints can go: X and Y of each joint are the rows.
+func ways(f api.Frame) int { return 2 * len(f.Joints) }
+
+func rowOfX(joint int) int { return 2 * joint }
+
+func rowOfY(joint int) int { return 2*joint + 1 }
+
+func rowOfHold(h api.Hold) int {
+	if h.Way == api.Along {
+		return rowOfX(h.Joint)
+	}
+	return rowOfY(h.Joint)
+}
+
+// balance tells how much each bar and hold of f, which is right, puts at each joint by a stress of 1.
+func balance(f api.Frame) []rows.Row {
+	l := rows.Blank(ways(f), parts(f))
+	for i, b := range f.Bars {
+		from, to := f.Joints[b.A], f.Joints[b.B]
+		x, y := num.Of(to.X).Minus(num.Of(from.X)), num.Of(to.Y).Minus(num.Of(from.Y))
+		l[rowOfX(b.A)][i], l[rowOfX(b.B)][i] = x, x.Neg()
+		l[rowOfY(b.A)][i], l[rowOfY(b.B)][i] = y, y.Neg()
+	}
+	for i, h := range f.Holds {
+		l[rowOfHold(h)][len(f.Bars)+i] = num.Of("1")
+	}
+	return l
+}
+
+// against is what bars and holds must put at each joint so that with the loads it adds up to 0.
+func against(f api.Frame, l []api.Load) rows.Row {
+	r := make(rows.Row, ways(f))
+	for i := range len(l) {
+		x, y := rowOfX(l[i].Joint), rowOfY(l[i].Joint)
+		r[x] = r[x].Minus(num.Of(l[i].Way.X))
+		r[y] = r[y].Minus(num.Of(l[i].Way.Y))
+	}
+	return r
+}
+
+// stressOf has two lists of their own, not two pieces of one.
+func stressOf(f api.Frame, r rows.Row) api.Stress {
+	n := len(f.Bars)
+	return api.Stress{Bars: textsOf(r[:n]), Holds: textsOf(r[n:])}
+}
+
+func textsOf(r rows.Row) []api.Q {
+	l := make([]api.Q, len(r))
+	for i := range len(r) {
+		l[i] = r[i].Q()
+	}
+	return l
+}
+
+func motionOf(r rows.Row) []api.Spot {
+	l := make([]api.Spot, len(r)/2)
+	for i := range len(l) {
+		l[i] = api.Spot{X: r[rowOfX(i)].Q(), Y: r[rowOfY(i)].Q()}
+	}
+	return l
+}
