@@ -1,11 +1,17 @@
 package num
 
-import "math/bits"
+import (
+	"math/bits"
+	"slices"
+)
 
 // gcd is Lehmer's: most of Euclid's steps are done on the highest words alone, many at a time. What 0 and y share is y.
 func gcd(x, y nat) nat {
 	if compareNats(x, y) < 0 {
 		x, y = y, x
+	}
+	if len(y) > 1 { // the steps change both
+		x, y = slices.Clone(x), slices.Clone(y)
 	}
 	for len(y) > 1 {
 		s := manySteps(x, y)
@@ -75,25 +81,31 @@ func highWords(x, y nat) (a, b uint64) {
 	return a, b
 }
 
+// apply leaves what becomes of x and y in their words. What Euclid's steps leave isn't longer than y: so no higher words of x count.
 func (s steps) apply(x, y nat) (newX, newY nat) {
+	x = x[:len(y)]
 	if s.odd {
-		return lessMultiples(y, s.xy, x, s.xx), lessMultiples(x, s.yx, y, s.yy)
+		takeFromEachOther(y, x, s.xy, s.xx, s.yx, s.yy)
+		return trim(y), trim(x)
 	}
-	return lessMultiples(x, s.xx, y, s.xy), lessMultiples(y, s.yy, x, s.yx)
+	takeFromEachOther(x, y, s.xx, s.xy, s.yy, s.yx)
+	return trim(x), trim(y)
 }
 
-// lessMultiples is u times x less v times y, where that is neither below 0 nor longer than both of them.
-func lessMultiples(x nat, u uint64, y nat, v uint64) nat {
-	n := max(len(x), len(y))
-	rest := make(nat, n)
-	var overX, overY, borrow uint64
-	for i := range n {
-		var lowX, lowY uint64
-		overX, lowX = multiplyAdd(x.word(i), u, overX)
-		overY, lowY = multiplyAdd(y.word(i), v, overY)
-		rest[i], borrow = bits.Sub64(lowX, lowY, borrow)
+// takeFromEachOther makes x a times x less b times y, and y c times y less d times x, where neither is below 0 or longer than both were.
+func takeFromEachOther(x, y nat, a, b, c, d uint64) {
+	y = y[:len(x)]
+	var overA, overB, overC, overD, lackX, lackY uint64
+	for i, u := range x {
+		v := y[i]
+		var lowA, lowB, lowC, lowD uint64
+		overA, lowA = multiplyAdd(u, a, overA)
+		overB, lowB = multiplyAdd(v, b, overB)
+		overC, lowC = multiplyAdd(v, c, overC)
+		overD, lowD = multiplyAdd(u, d, overD)
+		x[i], lackX = bits.Sub64(lowA, lowB, lackX)
+		y[i], lackY = bits.Sub64(lowC, lowD, lackY)
 	}
-	return trim(rest)
 }
 
 // multiplyAdd is x times y and c more, in two words.

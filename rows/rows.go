@@ -72,3 +72,32 @@ func joined(l []Row, sums Row) []Row {
 	}
 	return wider
 }
+
+// Of reads numbers into a row.
+func Of(l []api.Q) Row {
+	r := make(Row, len(l))
+	for i := range len(l) {
+		r[i] = num.Of(l[i])
+	}
+	return r
+}
+
+// Texts writes the numbers of r, in a list of its own.
+func (r Row) Texts() []api.Q {
+	l := make([]api.Q, len(r))
+	for i := range len(r) {
+		l[i] = r[i].Q()
+	}
+	return l
+}
+
+// Times is what r asks to be 0: each of its numbers times that of x, added.
+func (r Row) Times(x Row) num.Frac {
+	var sum num.Frac
+	for i := range len(r) {
+		if !r[i].IsZero() && !x[i].IsZero() {
+			sum = sum.Plus(r[i].Times(x[i]))
+		}
+	}
+	return sum
+}

@@ -107,6 +107,28 @@ func TestTurned(t *testing.T) {
 	}
 }
 
+func TestTextsAndTimes(t *testing.T) {
+	r := Of([]api.Q{"02/4", "x", "-3", "1/0"})
+	l := r.Texts()
+	if got := fmt.Sprint(l); got != "[1/2 0 -3 0]" {
+		t.Errorf("%s", got)
+	}
+	if got := fmt.Sprint(Of(nil), Row{}.Texts()); got != "[] []" {
+		t.Errorf("of nothing: %s", got)
+	}
+	for _, c := range [][3]api.Q{{"1/2", "1/3", "1/6"}, {"-3", "0", "0"}, {"0", "5", "0"}} {
+		if got := Of(c[:1]).Times(Of(c[1:2])).Q(); got != c[2] {
+			t.Errorf("%s times %s: %s", c[0], c[1], got)
+		}
+	}
+	if got := r.Times(Of([]api.Q{"4", "7", "1/3", "9"})).Q(); got != "1" {
+		t.Errorf("%s", got)
+	}
+	if got := (Row{}).Times(Row{}).Q(); got != "0" {
+		t.Errorf("of nothing: %s", got)
+	}
+}
+
 func randomRows(r *rand.Rand, high, wide int) []Row {
 	l := Blank(high, wide)
 	for i := range high {

@@ -1,0 +1,67 @@
+// Package balance has what bars and holds of a frame put at its joints, as fractions in rows, and what is told of these.
+package balance
+
+import (
+	"rafter/api"
+	"rafter/num"
+	"rafter/rows"
+)
+
+// Parts is how many bars and holds f has: bars, then holds, are the columns of its balance.
+func Parts(f api.Frame) int { return len(f.Bars) + len(f.Holds) }
+
+// Ways is how many ways its joints can go: X and Y of each joint are the rows.
+func Ways(f api.Frame) int { return 2 * len(f.Joints) }
+
+func rowOfX(joint int) int { return 2 * joint }
+
+func rowOfY(joint int) int { return 2*joint + 1 }
+
+// Held is the row of the joint, and the way, that h holds.
+func Held(h api.Hold) int {
+	if h.Way == api.Along {
+		return rowOfX(h.Joint)
+	}
+	return rowOfY(h.Joint)
+}
+
+// Of tells how much each bar and hold of f, which is right, puts at each joint by a stress of 1.
+func Of(f api.Frame) []rows.Row {
+	l := rows.Blank(Ways(f), Parts(f))
+	for i, b := range f.Bars {
+		from, to := f.Joints[b.A], f.Joints[b.B]
+		x, y := num.Of(to.X).Minus(num.Of(from.X)), num.Of(to.Y).Minus(num.Of(from.Y))
+		l[rowOfX(b.A)][i], l[rowOfX(b.B)][i] = x, x.Neg()
+		l[rowOfY(b.A)][i], l[rowOfY(b.B)][i] = y, y.Neg()
+	}
+	for i, h := range f.Holds {
+		l[Held(h)][len(f.Bars)+i] = num.Of("1")
+	}
+	return l
+}
+
+// Against is what bars and holds must put at each joint so that with the loads it adds up to 0.
+func Against(f api.Frame, l []api.Load) rows.Row {
+	r := make(rows.Row, Ways(f))
+	for i := range len(l) {
+		x, y := rowOfX(l[i].Joint), rowOfY(l[i].Joint)
+		r[x] = r[x].Minus(num.Of(l[i].Way.X))
+		r[y] = r[y].Minus(num.Of(l[i].Way.Y))
+	}
+	return r
+}
+
+// Stress has two lists of their own, not two pieces of one.
+func Stress(f api.Frame, r rows.Row) api.Stress {
+	n := len(f.Bars)
+	return api.Stress{Bars: r[:n].Texts(), Holds: r[n:].Texts()}
+}
+
+// Motion tells a row that has X and Y of each joint.
+func Motion(r rows.Row) []api.Spot {
+	l := make([]api.Spot, len(r)/2)
+	for i := range len(l) {
+		l[i] = api.Spot{X: r[rowOfX(i)].Q(), Y: r[rowOfY(i)].Q()}
+	}
+	return l
+}
