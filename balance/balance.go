@@ -25,12 +25,17 @@ func Held(h api.Hold) int {
 	return rowOfY(h.Joint)
 }
 
+// Way is the way of a bar of f, from its A to its B.
+func Way(f api.Frame, b api.Bar) (x, y num.Frac) {
+	from, to := f.Joints[b.A], f.Joints[b.B]
+	return num.Of(to.X).Minus(num.Of(from.X)), num.Of(to.Y).Minus(num.Of(from.Y))
+}
+
 // Of tells how much each bar and hold of f, which is right, puts at each joint by a stress of 1.
 func Of(f api.Frame) []rows.Row {
 	l := rows.Blank(Ways(f), Parts(f))
 	for i, b := range f.Bars {
-		from, to := f.Joints[b.A], f.Joints[b.B]
-		x, y := num.Of(to.X).Minus(num.Of(from.X)), num.Of(to.Y).Minus(num.Of(from.Y))
+		x, y := Way(f, b)
 		l[rowOfX(b.A)][i], l[rowOfX(b.B)][i] = x, x.Neg()
 		l[rowOfY(b.A)][i], l[rowOfY(b.B)][i] = y, y.Neg()
 	}

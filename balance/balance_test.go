@@ -34,6 +34,11 @@ func TestBalance(t *testing.T) {
 	if got := told(balance.Of(f)); got != want {
 		t.Errorf("%s, want %s", got, want)
 	}
+	for i, w := range []string{"2 3", "-2 -3"} {
+		if x, y := balance.Way(f, f.Bars[i]); string(x.Q()+" "+y.Q()) != w {
+			t.Errorf("way of bar %d: %s %s, want %s", i, x.Q(), y.Q(), w)
+		}
+	}
 	for i, at := range []int{2, 1} {
 		if got := balance.Held(f.Holds[i]); got != at {
 			t.Errorf("hold %d: row %d, want %d", i, got, at)

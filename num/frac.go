@@ -126,6 +126,11 @@ func (x Frac) Times(y Frac) Frac {
 	return built(x.minus != y.minus, top, low)
 }
 
+// Squared is x times x. What is in lowest terms is so when squared, too: no gcd is needed.
+func (x Frac) Squared() Frac {
+	return built(false, multiplyNats(x.top, x.top), multiplyNats(x.low, x.low))
+}
+
 // Over is x over y; over 0 it is 0, as everywhere.
 func (x Frac) Over(y Frac) Frac {
 	if y.IsZero() {

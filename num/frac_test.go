@@ -86,6 +86,7 @@ func TestFracsAgainstBig(t *testing.T) {
 		isFrac(t, "sum", x.Plus(y), new(big.Rat).Add(a, b))
 		isFrac(t, "difference", x.Minus(y), new(big.Rat).Sub(a, b))
 		isFrac(t, "product", x.Times(y), new(big.Rat).Mul(a, b))
+		isFrac(t, "square", x.Squared(), new(big.Rat).Mul(a, a))
 		if b.Sign() != 0 {
 			isFrac(t, "quotient", x.Over(y), new(big.Rat).Quo(a, b))
 		}
