@@ -27,6 +27,14 @@ func Of(q api.Q) Frac {
 	return reduced(minus, parseNat(top), parseNat(low))
 }
 
+// Whole is n as a fraction.
+func Whole(n int) Frac {
+	if n < 0 {
+		return built(true, natOfWord(-uint64(n)), nil)
+	}
+	return built(false, natOfWord(uint64(n)), nil)
+}
+
 func reduced(minus bool, top, low nat) Frac {
 	if len(low) == 0 {
 		return Frac{}
@@ -83,6 +91,9 @@ func (x Frac) Sign() int {
 func (x Frac) Equal(y Frac) bool {
 	return x.minus == y.minus && slices.Equal(x.top, y.top) && slices.Equal(x.low, y.low)
 }
+
+// Compare is -1, 0 or 1: x is below y, y, or above.
+func (x Frac) Compare(y Frac) int { return x.Minus(y).Sign() }
 
 // Neg is 0 less x.
 func (x Frac) Neg() Frac { return built(!x.minus, x.top, x.low) }

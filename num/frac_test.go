@@ -1,6 +1,7 @@
 package num
 
 import (
+	"math"
 	"math/big"
 	"math/rand"
 	"strings"
@@ -93,7 +94,16 @@ func TestFracsAgainstBig(t *testing.T) {
 		if x.Equal(y) != (a.Cmp(b) == 0) || x.IsZero() != (a.Sign() == 0) || x.Sign() != a.Sign() {
 			t.Fatalf("%s and %s: equal %v, zero %v, sign %d", p, q, x.Equal(y), x.IsZero(), x.Sign())
 		}
+		if x.Compare(y) != a.Cmp(b) || x.Compare(x) != 0 {
+			t.Fatalf("%s and %s: compared %d", p, q, x.Compare(y))
+		}
 		isFrac(t, "less itself", x.Minus(x), new(big.Rat))
+	}
+}
+
+func TestWhole(t *testing.T) {
+	for _, n := range []int{0, 1, -1, 2, 7, -24, math.MaxInt, math.MinInt, math.MinInt + 1} {
+		isFrac(t, "whole", Whole(n), new(big.Rat).SetInt64(int64(n)))
 	}
 }
 
