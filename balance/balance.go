@@ -70,3 +70,12 @@ func Motion(r rows.Row) []api.Spot {
 	}
 	return l
 }
+
+// RowOf reads a motion of the joints into such a row.
+func RowOf(motion []api.Spot) rows.Row {
+	r := make(rows.Row, 2*len(motion))
+	for i := range len(motion) {
+		r[rowOfX(i)], r[rowOfY(i)] = num.Of(motion[i].X), num.Of(motion[i].Y)
+	}
+	return r
+}

@@ -64,4 +64,7 @@ func TestTold(t *testing.T) {
 	if got := fmt.Sprint(balance.Motion(r)); got != "[{1 1/2} {-3 0}]" {
 		t.Errorf("%s", got)
 	}
+	if got := fmt.Sprint(balance.RowOf([]api.Spot{{X: "1", Y: "2/4"}, {X: "-3", Y: "x"}}).Texts()); got != "[1 1/2 -3 0]" {
+		t.Errorf("%s", got)
+	}
 }

@@ -34,6 +34,9 @@ func Turned(l []Row, wide int) []Row {
 // Rank is how many of the rows of l don't hang together.
 func Rank(l []Row, wide int) int { return len(stairsOf(l, wide).rows) }
 
+// Heads is the columns of l that aren't free (see Nulls): none of them is a sum of multiples of those ahead of it.
+func Heads(l []Row, wide int) []int { return stairsOf(l, wide).heads }
+
 // Nulls has, of each column that is free, what all rows of l make 0, is 1 there, and 0 at all other free ones. A column is free if something that all rows make 0 isn't 0 there and is 0 at all columns behind it.
 func Nulls(l []Row, wide int) []Row {
 	s := stairsOf(l, wide)

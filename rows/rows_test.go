@@ -3,6 +3,7 @@ package rows
 import (
 	"fmt"
 	"math/rand"
+	"slices"
 	"strings"
 	"testing"
 
@@ -63,6 +64,38 @@ func TestRankAndNulls(t *testing.T) {
 		if got := told(Nulls(read(c.text), c.wide)); got != c.nulls {
 			t.Errorf("%q: %q, want %q", c.text, got, c.nulls)
 		}
+	}
+}
+
+func TestHeads(t *testing.T) {
+	for _, c := range []struct {
+		text string
+		wide int
+		want string
+	}{
+		{"", 0, "[]"},
+		{"", 2, "[]"},
+		{"0 0; 0 0", 2, "[]"},
+		{"5 0; 0 -1/2", 2, "[0 1]"},
+		{"0 2", 2, "[1]"},
+		{"2 4; 3 6; 1/2 1", 2, "[0]"},
+		{"0 0 1 1; 1 1 0 0", 4, "[0 2]"},
+		{"1 1 1 1; 0 1 1 1", 4, "[0 1]"},
+		{"0 1 1 1; 0 1 1 2", 4, "[1 3]"},
+	} {
+		if got := fmt.Sprint(Heads(read(c.text), c.wide)); got != c.want {
+			t.Errorf("%q: %s, want %s", c.text, got, c.want)
+		}
+	}
+}
+
+func TestLessAndOver(t *testing.T) {
+	r, s := Of([]api.Q{"1", "0", "3", "1/2"}), Of([]api.Q{"2", "1", "0", "1/4"})
+	if got := told([]Row{r.Less(s, num.Of("2")), r.Less(s, num.Frac{}), r.Over(num.Of("-1/2")), r, s}); got != "-3 -2 3 0; 1 0 3 1/2; -2 0 -6 -1; 1 0 3 1/2; 2 1 0 1/4" {
+		t.Errorf("%s", got)
+	}
+	if got := told([]Row{Row{}.Less(Row{}, num.Of("2")), Row{}.Over(num.Of("2"))}); got != "; " {
+		t.Errorf("of nothing: %q", got)
 	}
 }
 
@@ -162,6 +195,11 @@ func TestRandomRows(t *testing.T) {
 		nulls := Nulls(l, wide)
 		if len(nulls) != wide-rank {
 			t.Fatalf("%s: rank %d, nulls %s", before, rank, told(nulls))
+		}
+		for c, heads := 0, Heads(l, wide); c < wide; c++ { // a head is what adds to the rank of those ahead of it
+			if adds := Rank(l, c+1) > Rank(l, c); adds != slices.Contains(heads, c) {
+				t.Fatalf("%s: column %d adds is %v, heads %v", before, c, adds, heads)
+			}
 		}
 		x := randomRows(r, 1, wide)[0]
 		sums := make(Row, high)

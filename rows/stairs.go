@@ -26,7 +26,7 @@ func stairsOf(l []Row, wide int) stairs {
 		left = slices.Delete(left, at, at+1)
 		for i, r := range left {
 			if !r[c].IsZero() {
-				left[i] = r.less(step, r[c].Over(step[c]))
+				left[i] = r.Less(step, r[c].Over(step[c]))
 			}
 		}
 		s.rows, s.heads = append(s.rows, step), append(s.heads, c)
@@ -59,8 +59,8 @@ func (r Row) filled() int {
 	return n
 }
 
-// less is r less by times s.
-func (r Row) less(s Row, by num.Frac) Row {
+// Less is r less by times s.
+func (r Row) Less(s Row, by num.Frac) Row {
 	rest := make(Row, len(r))
 	for c := range len(r) {
 		rest[c] = r[c]
@@ -71,8 +71,8 @@ func (r Row) less(s Row, by num.Frac) Row {
 	return rest
 }
 
-// over is r over by, which isn't 0.
-func (r Row) over(by num.Frac) Row {
+// Over is r over by, which isn't 0.
+func (r Row) Over(by num.Frac) Row {
 	part := make(Row, len(r))
 	for c := range len(r) {
 		part[c] = r[c].Over(by)
@@ -83,10 +83,10 @@ func (r Row) over(by num.Frac) Row {
 // clean makes each row 1 where it begins, and 0 where another one begins. It goes upwards, so that what is taken from a row is clean already and fills none of the noughts that were made.
 func (s stairs) clean() {
 	for i := len(s.rows) - 1; i >= 0; i-- {
-		r := s.rows[i].over(s.rows[i][s.heads[i]])
+		r := s.rows[i].Over(s.rows[i][s.heads[i]])
 		for k := i + 1; k < len(s.rows); k++ {
 			if by := r[s.heads[k]]; !by.IsZero() {
-				r = r.less(s.rows[k], by)
+				r = r.Less(s.rows[k], by)
 			}
 		}
 		s.rows[i] = r
