@@ -1,6 +1,7 @@
 package num
 
 import (
+	"cmp"
 	"slices"
 	"strings"
 
@@ -92,8 +93,17 @@ func (x Frac) Equal(y Frac) bool {
 	return x.minus == y.minus && slices.Equal(x.top, y.top) && slices.Equal(x.low, y.low)
 }
 
-// Compare is -1, 0 or 1: x is below y, y, or above.
-func (x Frac) Compare(y Frac) int { return x.Minus(y).Sign() }
+// Compare is -1, 0 or 1: x is below y, y, or above. It takes no difference, which would cost a gcd.
+func (x Frac) Compare(y Frac) int {
+	if x.Sign() != y.Sign() {
+		return cmp.Compare(x.Sign(), y.Sign())
+	}
+	c := compareNats(multiplyNats(x.top, y.under()), multiplyNats(y.top, x.under()))
+	if x.minus {
+		return -c
+	}
+	return c
+}
 
 // Neg is 0 less x.
 func (x Frac) Neg() Frac { return built(!x.minus, x.top, x.low) }

@@ -97,6 +97,9 @@ func TestFracsAgainstBig(t *testing.T) {
 		if x.Compare(y) != a.Cmp(b) || x.Compare(x) != 0 {
 			t.Fatalf("%s and %s: compared %d", p, q, x.Compare(y))
 		}
+		if z := x.Plus(y); x.Compare(z) != -b.Sign() || z.Compare(x) != b.Sign() {
+			t.Fatalf("%s, and %s more: compared %d", p, q, x.Compare(z))
+		}
 		isFrac(t, "less itself", x.Minus(x), new(big.Rat))
 	}
 }
