@@ -17,6 +17,9 @@ func rowOfX(joint int) int { return 2 * joint }
 
 func rowOfY(joint int) int { return 2*joint + 1 }
 
+// Joint is the joint of a row.
+func Joint(row int) int { return row / 2 }
+
 // Held is the row of the joint, and the way, that h holds.
 func Held(h api.Hold) int {
 	if h.Way == api.Along {
@@ -41,6 +44,47 @@ func Of(f api.Frame) []rows.Row {
 	}
 	for i, h := range f.Holds {
 		l[Held(h)][len(f.Bars)+i] = num.Of("1")
+	}
+	return l
+}
+
+// Free is the ways, as rows, in which no hold of f holds a joint.
+func Free(f api.Frame) []int {
+	held := make([]bool, Ways(f))
+	for _, h := range f.Holds {
+		held[Held(h)] = true
+	}
+	var free []int
+	for way := range len(held) {
+		if !held[way] {
+			free = append(free, way)
+		}
+	}
+	return free
+}
+
+// Stretched is how much a motion, a row of X and Y of each joint, stretches each bar of f.
+func Stretched(f api.Frame, motion rows.Row) rows.Row {
+	r := make(rows.Row, len(f.Bars))
+	for i, b := range f.Bars {
+		x, y := Way(f, b)
+		apartX := motion[rowOfX(b.B)].Minus(motion[rowOfX(b.A)])
+		apartY := motion[rowOfY(b.B)].Minus(motion[rowOfY(b.A)])
+		r[i] = x.Times(apartX).Plus(y.Times(apartY))
+	}
+	return r
+}
+
+// Stiff has a row and a column for each way of the joints of f: how much the bars push back in one, if a joint is moved by 1 in another.
+func Stiff(f api.Frame) []rows.Row {
+	l := rows.Blank(Ways(f), Ways(f))
+	for i, puts := range rows.Turned(Of(f), len(f.Bars)) {
+		c := num.Of(f.Bars[i].C)
+		for way, put := range puts {
+			if !put.IsZero() {
+				l[way] = l[way].Less(puts, c.Times(put).Neg())
+			}
+		}
 	}
 	return l
 }

@@ -49,14 +49,11 @@ func sidesOf(f api.Frame, l []api.Load) [2]side {
 // settled is where the joints go, if the bars pull as form tells. Of what is held the place is known: only the others are asked for.
 func (s side) settled(form []rows.Row) (rows.Row, api.Errno) {
 	at, free := s.kept()
-	l, sums := rows.Blank(len(free), len(free)), make(rows.Row, len(free))
+	sums := make(rows.Row, len(free))
 	for i, joint := range free {
-		for k, other := range free {
-			l[i][k] = form[joint][other]
-		}
 		sums[i] = s.loads[joint].Minus(form[joint].Times(at))
 	}
-	x, e := rows.Solve(l, len(free), sums)
+	x, e := rows.Solve(rows.Part(form, free), len(free), sums)
 	if e != api.OK {
 		return nil, e
 	}

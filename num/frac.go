@@ -159,3 +159,12 @@ func (x Frac) Over(y Frac) Frac {
 	}
 	return x.Times(built(y.minus, y.under(), y.top))
 }
+
+// Floor is the greatest whole number that isn't above x.
+func (x Frac) Floor() Frac {
+	whole, rest := divideNats(x.top, x.under())
+	if x.minus && len(rest) > 0 {
+		whole = addNats(whole, nat{1})
+	}
+	return built(x.minus, whole, nil)
+}

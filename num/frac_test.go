@@ -110,6 +110,23 @@ func TestWhole(t *testing.T) {
 	}
 }
 
+func TestFloor(t *testing.T) {
+	for _, c := range []struct{ q, want api.Q }{
+		{"0", "0"}, {"7", "7"}, {"-7", "-7"}, {"1/2", "0"}, {"-1/2", "-1"}, {"7/2", "3"}, {"-7/2", "-4"}, {"-1/99", "-1"}, {"98/99", "0"},
+		{"-18446744073709551615/2", "-9223372036854775808"}, {"36893488147419103231/2", "18446744073709551615"}, {"-36893488147419103231/2", "-18446744073709551616"},
+	} {
+		isFrac(t, "floor", Of(c.q).Floor(), ratOf(c.want))
+	}
+	r := rand.New(rand.NewSource(5))
+	for i := range 3000 {
+		q := randomQ(r, []int{1, 2, 8, 40, 150}[i%5])
+		a := ratOf(q)
+		low := new(big.Int).Div(a.Num(), a.Denom()) // of what is above 0 below the bar, this is the floor
+		isFrac(t, "floor", Of(q).Floor(), new(big.Rat).SetInt(low))
+		isFrac(t, "what it was", Of(q), a)
+	}
+}
+
 func TestOverNothing(t *testing.T) {
 	for _, q := range []api.Q{"0", "3", "-1/7"} {
 		if got := Of(q).Over(Frac{}).Q(); got != "0" {

@@ -226,3 +226,37 @@ func TestCheckLoads(t *testing.T) {
 		t.Errorf("no bars, no holds: %v", got)
 	}
 }
+
+// truss holds joint 0 in X, then in Y, and joint 1 in Y.
+func TestCheckMotion(t *testing.T) {
+	still := make([]api.Spot, 4)
+	for _, c := range []struct {
+		what   string
+		motion []api.Spot
+		want   api.Fault
+	}{
+		{"none", nil, fault(api.ErrCount, 8)},
+		{"too few", still[1:], fault(api.ErrCount, 8)},
+		{"too many", make([]api.Spot, 5), fault(api.ErrCount, 8)},
+		{"too many, what is held moves", slices.Repeat([]api.Spot{spot("1", "1")}, 5), fault(api.ErrCount, 8)},
+		{"nothing moves", still, api.Fault{}},
+		{"what isn't held moves", []api.Spot{{}, spot("1", ""), spot("-1/2", "5"), spot("0", "7")}, api.Fault{}},
+		{"what counts as 0", []api.Spot{spot("x", "-0"), spot("1", "1/0"), {}, {}}, api.Fault{}},
+		{"the first hold", []api.Spot{spot("-1/99", "0"), {}, {}, {}}, fault(api.ErrValue, 5)},
+		{"the second", []api.Spot{spot("0", "1"), {}, {}, {}}, fault(api.ErrValue, 6)},
+		{"the third", []api.Spot{{}, spot("0", "1"), {}, {}}, fault(api.ErrValue, 7)},
+		{"all of them", []api.Spot{spot("1", "1"), spot("1", "1"), {}, {}}, fault(api.ErrValue, 5)},
+		{"the last two", []api.Spot{spot("", "1"), spot("1", "1"), {}, {}}, fault(api.ErrValue, 6)},
+	} {
+		if got := rig.CheckMotion(truss(), c.motion); got != c.want {
+			t.Errorf("%s: %v, want %v", c.what, got, c.want)
+		}
+	}
+	bare := api.Frame{Joints: []api.Spot{{}}}
+	if got := rig.CheckMotion(bare, []api.Spot{spot("1", "1")}); got != (api.Fault{}) {
+		t.Errorf("no bars, no holds: %v", got)
+	}
+	if got := rig.CheckMotion(bare, nil); got != fault(api.ErrCount, 0) {
+		t.Errorf("no bars, no holds, none: %v", got)
+	}
+}

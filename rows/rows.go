@@ -31,6 +31,17 @@ func Turned(l []Row, wide int) []Row {
 	return t
 }
 
+// Part is what l has where both the row and the column are among those that at tells.
+func Part(l []Row, at []int) []Row {
+	part := Blank(len(at), len(at))
+	for i, row := range at {
+		for k, column := range at {
+			part[i][k] = l[row][column]
+		}
+	}
+	return part
+}
+
 // Rank is how many of the rows of l don't hang together.
 func Rank(l []Row, wide int) int { return len(stairsOf(l, wide).rows) }
 

@@ -140,6 +140,25 @@ func TestTurned(t *testing.T) {
 	}
 }
 
+func TestPart(t *testing.T) {
+	l := read("1 2 3; 4 5 6; 7 8 9")
+	for _, c := range []struct {
+		at   []int
+		want string
+	}{{nil, ""}, {[]int{1}, "5"}, {[]int{0, 2}, "1 3; 7 9"}, {[]int{2, 0}, "9 7; 3 1"}, {[]int{0, 1, 2}, "1 2 3; 4 5 6; 7 8 9"}} {
+		part := Part(l, c.at)
+		if got := told(part); got != c.want {
+			t.Errorf("%v: %q, want %q", c.at, got, c.want)
+		}
+		for _, r := range part {
+			clear(r)
+		}
+	}
+	if got := told(l); got != "1 2 3; 4 5 6; 7 8 9" {
+		t.Errorf("it has become %q", got)
+	}
+}
+
 func TestTextsAndTimes(t *testing.T) {
 	r := Of([]api.Q{"02/4", "x", "-3", "1/0"})
 	l := r.Texts()
